@@ -1,0 +1,1 @@
+"""A dominoes table, watched."""
