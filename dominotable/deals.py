@@ -7,12 +7,33 @@ def count_deals(choices, room):
     choices holds for each tile the places where it may be, room for each
     place how many tiles it has. There are as many tiles as there is room.
     """
+    return sum(ways_by_room_left(choices, room).values())
+
+
+def count_by_place(others, places, room):
+    """By place, how many deals there are in which it has one certain tile.
+
+    places holds the choices of that tile, others those of all others.
+    """
+    counts = [0] * len(room)
+    # That tile goes last, to where the others left room for it: so all its
+    # places are counted at once.
+    ways = ways_by_room_left(others, room)
+    for left in ways:
+        place = left.index(1)
+        if place in places:
+            counts[place] = ways[left]
+    return counts
+
+
+def ways_by_room_left(choices, room):
+    """In how many ways the tiles can be dealt, by the room that is left."""
     # Ways that leave the same room are counted together: there are few
     # sorts of room left, where the deals themselves may be very many.
     ways = {tuple(room): 1}
     for places in choices:
         ways = with_one_dealt(ways, places)
-    return sum(ways.values())
+    return ways
 
 
 def with_one_dealt(ways, places):

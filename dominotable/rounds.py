@@ -1,7 +1,7 @@
 """A round as it is seen: what lies, who passed, and what is known."""
 
-from dominotable.deals import count_deals
-from dominotable.tiles import all_tiles, other_number
+from dominotable.deals import count_by_place, count_deals
+from dominotable.tiles import all_tiles, other_number, points_of
 
 LEFT = 0
 RIGHT = 1
@@ -28,6 +28,8 @@ class Round:
         self.lacks = {}
         # How many passes there are one behind another.
         self.passes = 0
+        # By player, what the hand counts that they have shown.
+        self.shown = {}
 
     def has_tile(self, tile):
         """Whether there is such a tile in this round."""
@@ -36,6 +38,10 @@ class Round:
     def has_place(self, place):
         """Whether there is such a player, or it is the rest."""
         return 0 <= place <= self.players
+
+    def has_player(self, player):
+        """Whether there is such a player."""
+        return 0 <= player < self.players
 
     def is_over(self):
         """Whether nobody has a turn any more."""
@@ -74,11 +80,21 @@ class Round:
         """How many deals fit."""
         return count_deals([self.places_of(tile) for tile in self.hidden], self.room)
 
-    def deals_with(self, tile, place):
-        """How many deals fit in which that place has that hidden tile."""
-        if place not in self.places_of(tile):
-            return 0
-        choices = [[place] if hidden == tile else self.places_of(hidden) for hidden in self.hidden]
+    def deals_by_place(self, tile):
+        """By place, how many deals fit in which it has that hidden tile."""
+        others = [self.places_of(hidden) for hidden in self.hidden if hidden != tile]
+        return count_by_place(others, self.places_of(tile), self.room)
+
+    def deals_with_hand(self, player, hand):
+        """How many deals fit in which the player has those hidden tiles."""
+        choices = []
+        for tile in self.hidden:
+            places = self.places_of(tile)
+            if tile in hand:
+                # A tile that can't be theirs is left without a place then,
+                # so that no deal fits.
+                places = [place for place in places if place == player]
+            choices.append(places)
         return count_deals(choices, self.room)
 
     def deals_after_pass(self):
@@ -97,6 +113,12 @@ class Round:
     def note_known(self, tile, place):
         """From now on the tile is known to be at that place."""
         self.known[tile] = place
+
+    def note_hand(self, player, hand):
+        """The player has shown that hand: it is known to be there."""
+        for tile in hand:
+            self.note_known(tile, player)
+        self.shown[player] = points_of(hand)
 
     def lay(self, tile, side):
         """The player whose turn it is plays the tile at that side."""
@@ -120,6 +142,26 @@ class Round:
             self.lacks[(self.turn, number)] = True
         self.passes = self.passes + 1
         self.end_turn(self.passes == self.players)
+
+    def is_all_shown(self):
+        """Whether every player has shown their hand."""
+        return len(self.shown) == self.players
+
+    def counts(self):
+        """What each hand counts, when all are shown."""
+        return [self.shown[player] for player in range(self.players)]
+
+    def winner(self):
+        """Who has won, when all hands are shown; -1 if nobody has."""
+        for player in range(self.players):
+            # They have won even if another's hand counts no more.
+            if self.room[player] == 0:
+                return player
+        counts = self.counts()
+        least = min(counts)
+        if counts.count(least) > 1:
+            return -1
+        return counts.index(least)
 
     def end_turn(self, over):
         """The turn goes to the player behind, or to nobody if it is over."""

@@ -15,8 +15,18 @@ def tile_of(one, other):
     return (min(one, other), max(one, other))
 
 
+def tiles_of(numbers):
+    """The tiles told by two numbers each, one behind another."""
+    return [tile_of(numbers[at], numbers[at + 1]) for at in range(0, len(numbers), 2)]
+
+
 def other_number(tile, number):
     """The tile's number beside the one given; for alike ones the same."""
     if tile[0] == number:
         return tile[1]
     return tile[0]
+
+
+def points_of(hand):
+    """What a hand counts: the numbers of its tiles."""
+    return sum([tile[0] + tile[1] for tile in hand])

@@ -13,6 +13,9 @@ LEFT = 0
 RIGHT = 1
 PASS = [4]
 DEALS = [5]
+SCORE = [8]
+NOW = [9]
+LINE = [10]
 
 
 def begin(players, tiles, greatest, first):
@@ -25,6 +28,15 @@ def know(place, one, other):
 
 def play(one, other, side):
     return [3, one, other, side]
+
+
+def may(one, other):
+    return [6, one, other]
+
+
+def show(player, *hand):
+    """hand: the numbers of the row, as they are."""
+    return [7, player, len(hand), *hand]
 
 
 def told(*calls):
@@ -69,7 +81,10 @@ class SlowWatcher:
         self.players = 0
 
     def answer(self, call):
-        kinds = {1: self.begin, 2: self.know, 3: self.play, 4: self.pass_by, 5: self.count}
+        kinds = {
+            1: self.begin, 2: self.know, 3: self.play, 4: self.pass_by, 5: self.count,
+            6: self.may, 7: self.show, 8: self.score, 9: self.now, 10: self.tell_line,
+        }
         return kinds[call[0]](*call[1:])
 
     def begin(self, players, tiles, greatest, first):
@@ -87,6 +102,7 @@ class SlowWatcher:
         self.room = [tiles] * players + [rest]
         self.deals = every_deal(tuple(every), tuple(self.room))
         self.table, self.known, self.line, self.passes = set(), {}, [], 0
+        self.passed, self.hands = set(), {}
         return [rest]
 
     def tile(self, one, other):
@@ -163,6 +179,7 @@ class SlowWatcher:
         hit = [tile for tile in self.every if tile not in self.table and ends & set(tile)]
         if not self.keep([deal for deal in self.deals if all(deal[t] != self.turn for t in hit)]):
             return [-7]
+        self.passed |= {(self.turn, tile) for tile in hit}
         self.passes += 1
         self.turn = (self.turn + 1) % self.players
         return [self.passes] + self.stands()
@@ -172,3 +189,61 @@ class SlowWatcher:
         if not self.players:
             return [-2]
         return [len(self.deals)]
+
+    def may(self, one, other):
+        if not self.players:
+            return [-2]
+        tile = self.tile(one, other)
+        if tile is None:
+            return [-1]
+        if tile in self.table:
+            return [-4]
+        places = range(self.players + 1)
+        able = [place for place in places if (place, tile) not in self.passed]
+        if tile in self.known:
+            able = [self.known[tile]]
+        has = [deal[tile] for deal in self.deals]
+        return [len(able)] + [has.count(place) for place in places]
+
+    def show(self, player, length, *row):
+        assert len(row) == length
+        if player not in range(self.players):
+            return [-1]
+        if not self.over():
+            return [-3]
+        if length % 2:
+            return [-1]
+        hand = [self.tile(one, other) for one, other in zip(row[::2], row[1::2])]
+        if None in hand:
+            return [-1]
+        if player in self.hands:
+            return [-5]
+        has = set(hand) - self.table
+        if len(has) != len(hand) or len(has) != self.room[player]:
+            return [-4]
+        if not self.keep([deal for deal in self.deals if all(deal[t] == player for t in has)]):
+            return [-7]
+        self.hands[player] = sum(row)
+        self.known.update({tile: player for tile in has})
+        return [sum(row), len(self.hands)]
+
+    def score(self):
+        if not self.players:
+            return [-2]
+        if not self.over() or len(self.hands) < self.players:
+            return [-3]
+        counts = [self.hands[player] for player in range(self.players)]
+        # Who has no tile left is told ahead of all hands, whatever they count.
+        keys = [(left > 0, left and count) for left, count in zip(self.room, counts)]
+        won = keys.count(min(keys)) == 1
+        return [int(won), keys.index(min(keys)) if won else -1, sum(counts)] + counts
+
+    def now(self):
+        if not self.players:
+            return [1, -1, -1, -1, 0, 0, 0]
+        return [int(self.over())] + self.stands() + [self.room[-1], self.passes, len(self.known)]
+
+    def tell_line(self):
+        if not self.players:
+            return [0]
+        return [len(self.line)] + [number for tile in self.line for number in tile]

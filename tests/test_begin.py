@@ -2,7 +2,9 @@
 
 import unittest
 
-from tests.helper import DEALS, FAR, LEFT, PASS, begin, every_tile, know, last, play, told
+from tests.helper import (
+    DEALS, FAR, LEFT, LINE, NOW, PASS, SCORE, begin, every_tile, know, last, may, play, show, told,
+)
 
 
 class Begin(unittest.TestCase):
@@ -112,19 +114,26 @@ class AheadOfTheFirst(unittest.TestCase):
         self.assertEqual(told(PASS), [[-3]])
 
     def test_there_is_no_round(self):
-        self.assertEqual(told(DEALS), [[-2]])
+        self.assertEqual(told(DEALS, may(0, 0), may(-1, 7), SCORE), [[-2]] * 4)
+
+    def test_there_is_no_player_to_show_a_hand(self):
+        for player in (-1, 0, 1) + FAR:
+            self.assertEqual(told(show(player), show(player, 0), show(player, 0, 0)), [[-1]] * 3)
+
+    def test_nothing_lies_and_there_is_no_rest(self):
+        self.assertEqual(told(NOW, LINE), [[1, -1, -1, -1, 0, 0, 0], [0]])
 
     def test_a_refused_begin_begins_nothing(self):
         for refused in (begin(1, 1, 3, 0), begin(4, 1, 1, 0), begin(4, 4, 6, 0)):
             self.assertEqual(
-                told(refused, DEALS, PASS, know(0, 0, 0), play(0, 0, 0))[1:],
-                [[-2], [-3], [-1], [-1]],
+                told(refused, DEALS, PASS, know(0, 0, 0), play(0, 0, 0), SCORE, NOW)[1:],
+                [[-2], [-3], [-1], [-1], [-2], [1, -1, -1, -1, 0, 0, 0]],
             )
 
     def test_calls_ahead_of_it_change_nothing(self):
-        ahead = [PASS, DEALS, know(0, 0, 0), play(0, 0, 0)]
-        calls = [begin(2, 2, 3, 1), play(0, 1, 0), PASS, DEALS, know(2, 3, 3), DEALS]
-        self.assertEqual(told(*ahead, *calls)[4:], told(*calls))
+        ahead = [PASS, DEALS, know(0, 0, 0), play(0, 0, 0), may(0, 0), show(0), SCORE, NOW, LINE]
+        calls = [begin(2, 2, 3, 1), play(0, 1, 0), PASS, DEALS, know(2, 3, 3), DEALS, NOW, LINE]
+        self.assertEqual(told(*ahead, *calls)[len(ahead):], told(*calls))
 
 
 class ASecondOne(unittest.TestCase):
@@ -145,9 +154,15 @@ class ASecondOne(unittest.TestCase):
         self.assertEqual(last(*over), [-3])
         self.assertEqual(told(*over, *self.FIRST)[3:], told(*self.FIRST))
 
+    def test_behind_one_that_is_over_with_hands_shown(self):
+        over = [begin(2, 2, 3, 0), play(0, 1, 0), PASS, PASS, show(0, 2, 3), show(1, 2, 2, 3, 3)]
+        self.assertEqual(last(*over, SCORE), [1, 0, 15, 5, 10])
+        calls = self.FIRST + [SCORE, NOW, LINE, may(2, 2), PASS, SCORE, show(0, 2, 3), SCORE]
+        self.assertEqual(told(*over, *calls)[len(over):], told(*calls))
+
     def test_a_refused_one_leaves_what_was(self):
         for refused in (begin(2, 2, 3, 2), begin(4, 7, 5, 0), begin(4, 5, 6, 0)):
-            further = [DEALS, play(0, 3, 0), DEALS]
+            further = [DEALS, NOW, play(0, 3, 0), DEALS, LINE]
             self.assertEqual(
                 told(*self.FIRST, refused, *further)[6:], told(*self.FIRST, *further)[5:]
             )
